@@ -15,6 +15,16 @@ const (
 	nanShort uint32 = 2143289344
 )
 
+// Go leaves open what a number above the greatest float32 turns into, so the
+// bits of the two infinite ones are told here. infiniteFrom is half-way between
+// the greatest float32 and the power of 2 behind it: of these two the power has
+// the even fraction, so half-way itself already rounds above the greatest one.
+const (
+	infiniteFrom          = 0x1.ffffffp127
+	infiniteShort  uint32 = 2139095040
+	shortBelowZero uint32 = 1 << 31
+)
+
 type Frac struct {
 	Num int64
 	Den int64
@@ -40,8 +50,13 @@ func FloatOf(bits uint64) float64 {
 }
 
 func Short(x float64) uint32 {
-	if math.IsNaN(x) {
+	switch {
+	case math.IsNaN(x):
 		return nanShort
+	case x >= infiniteFrom:
+		return infiniteShort
+	case x <= -infiniteFrom:
+		return infiniteShort | shortBelowZero
 	}
 	return math.Float32bits(float32(x))
 }

@@ -213,7 +213,14 @@ func TestP1ShortEnds(t *testing.T) {
 	shortBoth(t, math.Nextafter(half, 0), shortMost)
 	shortBoth(t, half, shortInf)
 	shortBoth(t, math.Nextafter(half, beyond), shortInf)
+	shortBoth(t, 3.4028235677973362e38, shortMost)
+	shortBoth(t, 3.4028235677973366e38, shortInf)
+	shortBoth(t, math.MaxFloat32, shortMost)
+	shortBoth(t, math.Nextafter(math.MaxFloat32, beyond), shortMost)
 	shortBoth(t, beyond, shortInf)
+	for above := half; above < 1e308; above *= 1.0625 {
+		shortBoth(t, above, shortInf)
+	}
 	shortBoth(t, math.MaxFloat64, shortInf)
 	shortBoth(t, math.Inf(1), shortInf)
 	shortBoth(t, math.SmallestNonzeroFloat64, 0)
