@@ -1528,10 +1528,10 @@ func TestP18AnswersAreNew(t *testing.T) {
 	text := "in a bool\ndo b and a a\ndo c or b a\nout a\nout c"
 	d, _, _ := impl.ReadDiagram(text)
 	kept := diagramCopy(d)
+	d.Blocks[1].Args[0], d.Outs = 9, append(d.Outs, 8)
 	for i := range d.Blocks {
 		d.Blocks[i].Args = append(d.Blocks[i].Args, 7)
 	}
-	d.Blocks[1].Args[0], d.Outs = 9, append(d.Outs, 8)
 	if d.Blocks[2].Args[0] != 1 || d.Blocks[2].Args[1] != 0 || d.Outs[0] != 0 || d.Outs[1] != 2 {
 		t.Error("two lists share memory", d)
 	}
@@ -1541,15 +1541,14 @@ func TestP18AnswersAreNew(t *testing.T) {
 	rows := [][]int64{{1}, {0}, {1}}
 	shown, _ := impl.RunDiagram(kept, rows)
 	for i := range shown {
-		shown[i] = append(shown[i], 5)
 		shown[i][0] = 9
+		shown[i] = append(shown[i], 5)
 	}
 	if !sameTable(rows, [][]int64{{1}, {0}, {1}}) || shown[1][1] != 0 || shown[2][1] != 1 {
 		t.Error("rows share memory", rows, shown)
 	}
 	old, ins := []int64{0, 0, 0, 77}[:3], []int64{1, 77}[:1]
 	now, _ := impl.Cycle(kept, old, ins)
-	now = append(now, 5)
 	now[0] = 9
 	if !slices.Equal(old[:4], []int64{0, 0, 0, 77}) || !slices.Equal(ins[:2], []int64{1, 77}) {
 		t.Error("written into", old, ins)
